@@ -1,0 +1,1 @@
+"""Deedworlds: a house of small worlds in which equations hold."""

@@ -1,0 +1,85 @@
+"""The interface: each name is defined in its file, with the names of its arguments."""
+
+import ast
+import importlib
+import inspect
+import pathlib
+import unittest
+
+PACKAGE = pathlib.Path(__file__).resolve().parent.parent / "deedworlds"
+FILES = {
+    "terms": """signature_wrong(thing) term_wrong(signature,thing) equation_wrong(signature,thing) kind_wrong(thing)
+        variables_in(signature,term) letters_of(signature,equation) paths_in(signature,term)
+        term_at(signature,term,path) put_at(signature,term,path,other) put_in(signature,term,putting)
+        lettered(signature,term) matched(signature,pattern,term)""",
+    "texts": """term_text(signature,term) equation_text(signature,equation) kind_text(kind) read_term(signature,text)
+        read_equation(signature,text) least_equation(signature,equation) read_kind(text)""",
+    "models": """model_wrong(signature,thing) worth_by(signature,model,term,worths)
+        worth_row(signature,model,term,chosen) keeps(kind,model) first_broken(kind,model)
+        broken_many(signature,model,equation) told_by(signature,model,equations)""",
+    "modeltexts": "model_text(signature,model) read_model(signature,text)",
+}
+CONSTANTS = {"terms": {"VARIABLES": ("u", "v", "w", "x", "y", "z"), "MOST_PARTS": 60, "MOST_SIDE": 12,
+                       "MOST_SIZE": 6}}
+METHODS = {"its_signature": ["self"], "as_model": ["self"], "makes": ["self", "name", "args"],
+           "with_cell": ["self", "name", "args", "number"], "__init__": ["self", "signature", "size", "tables"],
+           "__eq__": None, "__len__": None, "__str__": None}
+
+
+def defined_in(name):
+    """The functions and classes that a file defines at its outermost."""
+    rows = ast.parse((PACKAGE / f"{name}.py").read_text()).body
+    return {row.name: row for row in rows if isinstance(row, (ast.FunctionDef, ast.ClassDef))}
+
+
+class InterfaceTest(unittest.TestCase):
+    def test_functions(self):
+        for name, listed in FILES.items():
+            module = importlib.import_module(f"deedworlds.{name}")
+            for one in listed.split():
+                function, args = one.rstrip(")").split("(")
+                self.assertIn(function, defined_in(name))
+                told = inspect.signature(getattr(module, function))
+                self.assertEqual(str(told).replace(" ", ""), f"({args})", function)
+
+    def test_constants(self):
+        for name, listed in CONSTANTS.items():
+            module = importlib.import_module(f"deedworlds.{name}")
+            for constant, worth in listed.items():
+                self.assertEqual(getattr(module, constant), worth)
+
+    def test_methods_of_model(self):
+        rows = defined_in("models")["Model"].body
+        methods = {row.name: [one.arg for one in row.args.args] for row in rows if isinstance(row, ast.FunctionDef)}
+        for name, args in METHODS.items():
+            self.assertIn(name, methods)
+            if args is not None:
+                self.assertEqual(methods[name], args)
+
+
+class FilesTest(unittest.TestCase):
+    """The plainest of the rules for the package's files."""
+
+    def test_lines_and_functions(self):
+        for path in PACKAGE.glob("*.py"):
+            text = path.read_text()
+            lines = text.split("\n")
+            self.assertLess(len(lines), 401, path)
+            for line in lines:
+                self.assertLess(len(line), 121, path)
+                self.assertTrue(all(" " <= sign <= "~" for sign in line), path)
+            for row in ast.walk(ast.parse(text)):
+                if isinstance(row, ast.FunctionDef):
+                    self.assertLess(row.end_lineno - row.lineno, 40, (path, row.name))
+
+    def test_imports_are_of_the_package(self):
+        for path in PACKAGE.glob("*.py"):
+            for row in ast.walk(ast.parse(path.read_text())):
+                self.assertNotIsInstance(row, ast.Import, path)
+                if isinstance(row, ast.ImportFrom):
+                    self.assertTrue(row.module.startswith("deedworlds."), path)
+                    self.assertTrue((PACKAGE / f"{row.module.split('.')[1]}.py").exists())
+
+
+if __name__ == "__main__":
+    unittest.main()
