@@ -18,9 +18,18 @@ FILES = {
         worth_row(signature,model,term,chosen) keeps(kind,model) first_broken(kind,model)
         broken_many(signature,model,equation) told_by(signature,model,equations)""",
     "modeltexts": "model_text(signature,model) read_model(signature,text)",
+    "maps": """renamed(signature,model,order) renamed_by(one,other) least_form(signature,model)
+        own_orders(signature,model) renamings(signature,model) orbits(signature,model)""",
+    "likeness": "likeness(signature,one,other) likeness_judged(signature,one,other,paper)",
+    "search": "cells_of(signature,size) search_judged(kind,size,paper) leaves(kind,size,paper) shown(kind,size,paper)",
+    "plain": "plain(kind,size) search(kind,size) nodes(kind,size)",
+    "grown": "grown(kind,size,paper)",
+    "counting": """all_models(kind,size) how_many(kind,size) all_told(kind,size) model_of(kind,size,k)
+        number_of(kind,size,model) spectrum(kind,*,most=6)""",
 }
 CONSTANTS = {"terms": {"VARIABLES": ("u", "v", "w", "x", "y", "z"), "MOST_PARTS": 60, "MOST_SIDE": 12,
-                       "MOST_SIZE": 6}}
+                       "MOST_SIZE": 6},
+             "plain": {"MOST_NODES": 1000}, "grown": {"MOST_GROWN": 20000}}
 METHODS = {"its_signature": ["self"], "as_model": ["self"], "makes": ["self", "name", "args"],
            "with_cell": ["self", "name", "args", "number"], "__init__": ["self", "signature", "size", "tables"],
            "__eq__": None, "__len__": None, "__str__": None}
