@@ -35,7 +35,7 @@ def read_table_line(line, deed, size):
     table = []
     for at in range(power(size, places)):
         if at > 0:
-            line.take(", " if places == 2 and at % size == 0 else " ")
+            line.take(", " if at % size == 0 else " ")
         table.append(int(line.take_one_of(numbers)))
     line.finish()
     return tuple(table)

@@ -14,34 +14,31 @@ class PlainTree:
     def __init__(self, kind, size):
         self.size = size
         self.ground = Ground(kind, size)
-        self.fresh_count = 0
-        self.broken_count = 0
-        self.model_count = 0
+        self.counts = {"fresh": 0, "broken": 0, "model": 0}
 
-    def look_at_many(self):
-        """Refuse a tree with too many nodes."""
-        if self.fresh_count + self.broken_count + self.model_count > MOST_NODES:
+    def add_node(self, word):
+        """Count one more node; refuse a tree with too many."""
+        self.counts[word] += 1
+        if sum(list(self.counts.values())) > MOST_NODES:
             raise TooMany("the plain tree has too many nodes")
 
     def tree_at(self, at, top):
         """The tree where the cells ahead of this place in order are known, and top is the greatest used number."""
         ground = self.ground
         if ground.broken:
-            self.broken_count += 1
-            self.look_at_many()
+            self.add_node("broken")
             number, worths = ground.first_broken_worths()
             return ("broken", number, worths)
         if at == len(ground.cells):
-            self.model_count += 1
-            self.look_at_many()
+            self.add_node("model")
             return ("model", ground.known_tables())
-        self.fresh_count += 1
-        self.look_at_many()
+        self.add_node("fresh")
         name, args = ground.cells[at]
+        cell = ground.cell_number(name, args)
         used = max((top,) + args)
         trees = []
         for number in range(min(used + 2, self.size)):
-            ground.make_known(self.size + at, number)
+            ground.make_known(cell, number)
             trees.append(self.tree_at(at + 1, max(used, number)))
             ground.take_back()
         return ("fresh", name, args, trees)
@@ -60,7 +57,8 @@ def nodes(kind, size):
     need_size(size)
     plain_tree = PlainTree(kind, size)
     plain_tree.tree_at(0, -1)
-    return (plain_tree.fresh_count, plain_tree.broken_count, plain_tree.model_count)
+    counts = plain_tree.counts
+    return (counts["fresh"], counts["broken"], counts["model"])
 
 
 def search(kind, size):

@@ -89,10 +89,9 @@ class SearchJudge:
 
     def is_right_model(self, tree):
         """Whether all cells are known, by these tables, and nothing is broken."""
-        if len(self.way) != len(self.ground.cells) or self.ground.broken:
+        if self.ground.broken or model_wrong(self.kind_asked[0], (self.size, tree[1])) is not None:
             return False
-        if model_wrong(self.kind_asked[0], (self.size, tree[1])) is not None:
-            return False
+        # a cell that isn't known stands there by -1, so no model's tables are the same then
         return tree[1] == self.ground.known_tables()
 
 

@@ -132,7 +132,7 @@ class JudgedTest(Checks, unittest.TestCase):
     def test_tree_at_the_begin(self):
         for tree in [None, True, (), [], "case", ("case",), ("case", ()), ("case", []), ("case", [None] * 2),
                      ("case", [None] * 4), ("case", [None] * 3, 0), ["case", [None] * 3], ("clash", "f", ()),
-                     ("clash", "f", (0,)), ("clash",), ("map", (0, 1, 2)), ("Case", [None] * 3), nested(299)]:
+                     ("case", (None,) * 3), ("clash", "f", (0,)), ("clash",), ("map", (0, 1, 2)), ("Case", [None] * 3), nested(299)]:
             self.assertEqual(likeness_judged(F, ID, SWAP, ("none", tree)), ("tree", ()), tree)
 
     def test_a_wrong_tree_of_alike_ones(self):
@@ -149,6 +149,24 @@ class JudgedTest(Checks, unittest.TestCase):
         self.assertEqual(likeness_judged(signature, one, other, ("none", tree)), ("tree", (0,)))
         tree = ("case", [("clash", "c", ()), ("clash", "c", ())])
         self.assertEqual(likeness_judged(signature, one, other, ("none", tree)), ("tree", (1,)))
+
+    def test_other_words_and_forms_of_a_right_clash(self):
+        signature = (("e", 0), ("c", 0))
+        one, other = (2, ((0,), (0,))), (2, ((0,), (1,)))
+        for tree in [("Clash", "c", ()), ("case", "c", ()), (None, "c", ()), ["clash", "c", ()], ("clash", "c", []),
+                     ("clash", "c", (), ()), ("clash", "c"), ("clash", ("c",), ()), ("clash", "c", (0,)),
+                     ("clash", "c", None)]:
+            paper = ("none", ("case", [tree, ("clash", "e", ())]))
+            self.assertEqual(likeness_judged(signature, one, other, paper), ("tree", (0,)), tree)
+
+    def test_truths_in_a_right_clash(self):
+        one, other = (2, ((0, 0),)), (2, ((1, 1),))
+        self.assertIsNone(likeness_judged(F, (2, ((0, 1),)), (2, ((1, 0),)), (
+            "none", ("case", [("clash", "f", (0,)), ("clash", "f", (0,))]))))
+        for numbers in [(False,), (1,), (-1,), (True,)]:
+            paper = ("none", ("case", [("clash", "f", numbers), ("clash", "f", (0,))]))
+            self.assertEqual(likeness_judged(F, (2, ((0, 1),)), (2, ((1, 0),)), paper), ("tree", (0,)), numbers)
+        self.assertEqual(likeness(F, one, other), ("map", (1, 0)))
 
     def test_no_case_where_all_have_images(self):
         signature = (("e", 0), ("c", 0))

@@ -17,6 +17,9 @@ KINDS = [
     (kind("m/2 e/0", "m(x, y) = e"), 3), (kind("e/0 c/0", "e = c", "c = e"), 6),
     (kind("f/1 g/1", "f(g(x)) = x"), 4), (kind("m/2", "m(m(x, y), m(z, w)) = m(m(x, z), m(y, w))"), 2),
     (kind("f/1", "f(f(x)) = f(x)", "f(x) = f(y)"), 6), (kind("m/2", "m(x, y) = x"), 4),
+    (kind("f/1", "x = f(f(x))"), 4), (kind("e/0 f/1", "x = e"), 3), (kind("e/0 f/1", "f(x) = x", "e = x"), 3),
+    (kind("e/0 f/1", "e = f(e)", "x = f(f(f(x)))"), 4), (kind("f/1 m/2", "m(f(x), f(x)) = f(m(x, x))"), 2),
+    (kind("e/0 m/2", "m(m(x, x), m(y, x)) = m(x, m(e, e))", "m(e, x) = x"), 3),
 ]
 
 
@@ -57,21 +60,17 @@ class PlainTest(Checks, unittest.TestCase):
             self.refuses(TooMany, function, GROUP, 4)
 
     def test_just_at_the_bound(self):
-        """Sizes of plain trees about a thousand, counted by the words."""
-        counted = []
-        for lines in [("a/0 m/2 n/2",), ("a/0 f/1 m/2 n/2", "f(a) = a"), ("a/0 b/0 f/1 m/2", "f(f(x)) = x"),
-                      ("a/0 b/0 m/2 n/2", "a = b"), ("a/0 b/0 m/2 n/2", "m(a, a) = a"),
-                      ("a/0 b/0 m/2 n/2", "m(a, b) = n(a, b)"), ("a/0 b/0 m/2 n/2", "m(b, b) = m(b, a)"),
-                      ("f/1 g/1 h/1 i/1",), ("f/1 g/1 m/2",), ("f/1 g/1 h/1 m/2",), ("a/0 f/1 g/1 m/2",)]:
-            one = kind(*lines)
-            many = places_in(plain_by_words(one, 2))
-            counted.append(many)
-            if many > 1000:
-                self.refuses(TooMany, nodes, one, 2)
-            else:
-                self.assertEqual(sum(nodes(one, 2)), many)
-        self.assertTrue(any(500 < many <= 1000 for many in counted), counted)
-        self.assertTrue(any(1000 < many < 1100 for many in counted), counted)
+        for size, lines in [(3, ("f/1 g/1 h/1", "f(h(x)) = h(x)", "g(z) = h(g(z))")),
+                            (3, ("f/1 g/1 h/1", "h(y) = h(h(z))", "h(g(y)) = y")),
+                            (3, ("f/1 g/1 h/1", "g(x) = g(h(z))", "f(y) = f(g(y))"))]:
+            self.assertEqual(places_in(plain_by_words(kind(*lines), size)), 1000)
+            self.assertEqual(sum(nodes(kind(*lines), size)), 1000)
+            self.assertEqual(places_in(plain(kind(*lines), size)), 1000)
+        for size, lines in [(5, ("f/1 g/1 h/1", "z = g(z)", "h(h(h(x))) = x", "f(h(z)) = h(f(x))")),
+                            (4, ("m/2 n/2", "m(y, y) = n(z, x)", "m(n(y, y), x) = n(y, z)", "m(z, y) = n(x, y)"))]:
+            self.assertEqual(places_in(plain_by_words(kind(*lines), size)), 1001)
+            for function in (plain, nodes, search):
+                self.refuses(TooMany, function, kind(*lines), size)
 
     def test_the_greatest_soon(self):
         four = ["m(m(x, y), m(z, w)) = m(m(x, z), m(y, w))"] * 4 + ["m(m(m(x, y), z), w) = m(x, m(y, m(z, w)))"] * 4

@@ -15,7 +15,8 @@ EF = kind("e/0 f/1", "f(f(x)) = f(x)", "f(e) = e")
 TWO = kind("f/1 e/0", "f(f(x)) = x")
 SAME = kind("f/1 e/0", "x = y")
 KINDS = [F, FF, EF, TWO, SAME, kind("e/0 c/0 f/1", "f(e) = c", "f(c) = e"), kind("m/2 e/0", "m(x, x) = e"),
-         kind("f/1 g/1", "f(g(x)) = x"), kind("a/0 b/0 c/0")]
+         kind("f/1 g/1", "f(g(x)) = x"), kind("a/0 b/0 c/0"), kind("f/1 e/0", "x = f(f(x))", "e = x"),
+         kind("f/1 g/1", "f(x) = g(x)")]
 
 
 class CellsTest(Checks, unittest.TestCase):
@@ -117,6 +118,15 @@ class JudgedTest(Checks, unittest.TestCase):
         paper = ("cell", "f", (0,), [known, known])
         self.assertEqual(search_judged(FF, 2, paper), ("tree", (0, 0)))
         self.assertEqual(search_judged(FF, 2, ("cell", "f", (0,), [("broken", 0, (0,)), known])), ("tree", (0,)))
+
+    def test_broken_where_just_one_side_is_known(self):
+        one = kind("f/1 g/1", "f(x) = g(x)")
+        for name in ("f", "g"):
+            paper = ("fresh", name, (0,), [("broken", 0, (0,)), ("broken", 0, (0,))])
+            self.assertEqual(search_judged(one, 2, paper), ("tree", (0,)))
+        one = kind("f/1 e/0", "f(x) = x", "e = x")
+        for i, worths in [(0, (0,)), (0, (1,)), (1, (0,)), (1, (1,))]:
+            self.assertEqual(search_judged(one, 2, ("broken", i, worths)), ("tree", ()))
 
     def test_model_leaves(self):
         right = ("cell", "f", (0,), [

@@ -201,6 +201,10 @@ class PuttingTest(Checks, unittest.TestCase):
         self.assertEqual(count_parts(put_in(MFE, term("f(x)"), {"x": tower("f", 59)})), 60)
         self.refuses(TooBig, put_in, MFE, term("f(x)"), {"x": tower("f", 60)})
         self.assertEqual(put_in(MFE, term("f(x)"), {"y": tower("f", 60)}), term("f(x)"))
+        self.assertEqual(put_in(MFE, tower("f", 60), {"y": deed("e")}), tower("f", 60))
+        both = deed("m", tower("f", 30), tower("f", 28, var("y")))
+        self.assertEqual(count_parts(put_in(MFE, both, {"y": term("f(e)")})), 60)
+        self.refuses(TooBig, put_in, MFE, both, {"y": term("f(f(e))")})
 
     def test_matched(self):
         self.assertEqual(matched(MFE, term("m(x, f(y))"), term("m(f(y), f(e))")), {"x": term("f(y)"), "y": deed("e")})
