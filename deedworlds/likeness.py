@@ -1,15 +1,9 @@
 """Models told as alike, by a map, or as unlike, by a closed tree; and such papers judged."""
 
 from deedworlds.basics import is_row, place_of_row, rows_below
-from deedworlds.models import need_model
+from deedworlds.models import need_two_models
 from deedworlds.ordering import is_order, renamed_tables
 from deedworlds.tablework import table_of
-
-
-def need_two(signature, one, other):
-    """Refuse what is no signature, then what is no model of it, the first one first."""
-    need_model(signature, one)
-    need_model(signature, other)
 
 
 def clashes(signature, one, other, images, name, numbers):
@@ -51,7 +45,7 @@ def led_from(signature, one, other, images):
 
 def likeness(signature, one, other):
     """A map from the one to the other, or unlike sizes, or a tree that there is no map."""
-    need_two(signature, one, other)
+    need_two_models(signature, one, other)
     if one[0] != other[0]:
         return ("size",)
     return led_from(signature, one, other, ())
@@ -106,7 +100,7 @@ def leads_there(signature, one, other, order):
 
 def likeness_judged(signature, one, other, paper):
     """None of a right paper on two models, else the first that is not so."""
-    need_two(signature, one, other)
+    need_two_models(signature, one, other)
     if not has_paper_form(paper):
         return ("paper",)
     if (one[0] == other[0]) == (paper[0] == "size"):

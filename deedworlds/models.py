@@ -53,6 +53,12 @@ def need_model(signature, model):
         raise NoModel("no model")
 
 
+def need_two_models(signature, one, other):
+    """Refuse what is no signature, then what is no model of it, the first one first."""
+    need_model(signature, one)
+    need_model(signature, other)
+
+
 def worth_by(signature, model, term, worths):
     """The number that a term comes to by worths."""
     need_model(signature, model)
@@ -87,6 +93,13 @@ def unlike_places(signature, model, equation):
     left = term_column(signature, model, equation[0], letters)
     right = term_column(signature, model, equation[1], letters)
     return [at for at, (one, other) in enumerate(zip(left, right)) if one != other]
+
+
+def unlike_under(signature, model, equation, worths):
+    """Whether the sides of an equation come to unlike numbers by worths that are known to be right."""
+    putting = dict(zip(variables_of(equation), worths))
+    return (worth_under(signature, model, equation[0], putting)
+            != worth_under(signature, model, equation[1], putting))
 
 
 def first_unkept(kind, model):

@@ -1,6 +1,6 @@
 """Work on signatures and tables that are known to be right: nothing is refused here."""
 
-from deedworlds.basics import place_of_row, power
+from deedworlds.basics import place_of_row, power, rows_below
 
 
 def table_of(signature, tables, name):
@@ -9,6 +9,15 @@ def table_of(signature, tables, name):
         if deed[0] == name:
             return table
     return None
+
+
+def cells_with_worths(signature, model):
+    """All cells of a model, by deeds, each a tuple of its name, its args and its worth."""
+    told = []
+    for (name, places), table in zip(signature, model[1]):
+        for args, worth in zip(rows_below(model[0], places), table):
+            told.append((name, args, worth))
+    return told
 
 
 def worth_under(signature, model, term, putting):

@@ -64,10 +64,8 @@ def has_term_form(places, thing):
             and isinstance(terms, tuple) and len(terms) == places[name])
 
 
-def term_wrong(signature, thing):
-    """None of a term of the signature, else the first that is not so."""
-    need_signature(signature)
-    places = dict(signature)
+def wrong_in_term(places, thing):
+    """What term_wrong tells, of the places of the deeds by their names."""
     many = 0
     todo = [((), thing)]
     while todo:
@@ -79,6 +77,12 @@ def term_wrong(signature, thing):
             for k in reversed(range(len(part[2]))):
                 todo.append((path + (k,), part[2][k]))
     return ("parts",) if many > MOST_PARTS else None
+
+
+def term_wrong(signature, thing):
+    """None of a term of the signature, else the first that is not so."""
+    need_signature(signature)
+    return wrong_in_term(dict(signature), thing)
 
 
 def need_term(signature, term):

@@ -26,10 +26,24 @@ FILES = {
     "grown": "grown(kind,size,paper)",
     "counting": """all_models(kind,size) how_many(kind,size) all_told(kind,size) model_of(kind,size,k)
         number_of(kind,size,model) spectrum(kind,*,most=6)""",
+    "roads": """road_wrong(kind,thing) road_judged(kind,equation,thing) road_turned(kind,road)
+        road_joined(kind,one,other) road_placed(kind,road,term,path) road_put(kind,road,putting)
+        road_uses(kind,road)""",
+    "following": """road_for(kind,equation,*,parts=9) shut_list(kind,equation,*,parts=9)
+        shut_judged(kind,equation,thing,*,parts=9)""",
+    "answers": """answered(kind,equation,size,*,parts=9) answer_judged(kind,equation,thing)
+        state_of(kind,equation,answer)""",
+    "leaning": """leaned(kind,number,size,*,parts=9) all_leaned(kind,size,*,parts=9) enough(kind,lot,size)
+        least_lots(kind,size) lot_paper(kind,lot,size) lot_judged(kind,lot,size,thing)""",
+    "parts": """made_by(signature,model,numbers) closed_lists(signature,model) part(signature,model,closed)
+        build(signature,model,numbers) build_judged(signature,model,numbers,thing)""",
+    "leads": """leads(signature,one,other) lead_judged(signature,one,other,thing) product(signature,one,other)
+        sides(signature,one,other) image(signature,one,other,lead)""",
 }
 CONSTANTS = {"terms": {"VARIABLES": ("u", "v", "w", "x", "y", "z"), "MOST_PARTS": 60, "MOST_SIDE": 12,
                        "MOST_SIZE": 6},
-             "plain": {"MOST_NODES": 1000}, "grown": {"MOST_GROWN": 20000}}
+             "plain": {"MOST_NODES": 1000}, "grown": {"MOST_GROWN": 20000}, "roads": {"MOST_LINES": 600},
+             "following": {"MOST_COME": 500}}
 METHODS = {"its_signature": ["self"], "as_model": ["self"], "makes": ["self", "name", "args"],
            "with_cell": ["self", "name", "args", "number"], "__init__": ["self", "signature", "size", "tables"],
            "__eq__": None, "__len__": None, "__str__": None}
