@@ -16,6 +16,16 @@ def is_row(thing, many, size):
     return isinstance(thing, tuple) and len(thing) == many and all([is_below(number, size) for number in thing])
 
 
+def are_unlike_below(things, size):
+    """Whether all are numbers below the size, none twice."""
+    met = [False] * size
+    for number in things:
+        if not is_below(number, size) or met[number]:
+            return False
+        met[number] = True
+    return True
+
+
 def power(base, many):
     """The base times itself, so many times."""
     told = 1
@@ -30,6 +40,14 @@ def rows_below(size, many):
     for step in range(many):
         rows = [row + (number,) for row in rows for number in range(size)]
     return rows
+
+
+def rising_lists(size):
+    """All rising lists of numbers below the size."""
+    lists = [[]]
+    for number in range(size):
+        lists = lists + [one + [number] for one in lists]
+    return lists
 
 
 def place_of_row(size, row):

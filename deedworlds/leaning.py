@@ -1,7 +1,7 @@
 """Which of a kind's equations lean on the others, and which lots of them are enough."""
 
 from deedworlds.answers import answered, first_leaf_unkept, searches_wrong
-from deedworlds.basics import is_below, power
+from deedworlds.basics import is_below, rising_lists
 from deedworlds.errors import NoLot, NoNumber
 from deedworlds.following import need_parts
 from deedworlds.models import first_unkept, model_wrong, need_size, unlike_places
@@ -91,10 +91,7 @@ def broken_lists(kind, size):
 
 def lots_in_order(many):
     """All lots of so many numbers, shorter ones first, then by the lesser numbers."""
-    lots = []
-    for mask in range(power(2, many)):
-        lots.append([number for number in range(many) if mask >> number & 1])
-    return sorted(lots, key=lambda lot: (len(lot), lot))
+    return sorted(rising_lists(many), key=lambda lot: (len(lot), lot))
 
 
 def has_all(lot, other):

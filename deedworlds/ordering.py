@@ -1,18 +1,11 @@
 """Orders and renamed tables, of what is known to be right."""
 
-from deedworlds.basics import is_below, rows_below
+from deedworlds.basics import are_unlike_below, rows_below
 
 
 def is_order(thing, size):
     """Whether it is a tuple of the numbers below the size, each once."""
-    if not isinstance(thing, tuple) or len(thing) != size:
-        return False
-    met = [False] * size
-    for number in thing:
-        if not is_below(number, size) or met[number]:
-            return False
-        met[number] = True
-    return True
+    return isinstance(thing, tuple) and len(thing) == size and are_unlike_below(thing, size)
 
 
 def orders_of(size):

@@ -1,6 +1,6 @@
 """Parts of models: closed lists of numbers, and builds that show what numbers make."""
 
-from deedworlds.basics import is_below, is_row, is_whole, place_of_row, power, rows_below
+from deedworlds.basics import is_below, is_row, is_whole, place_of_row, rising_lists, rows_below
 from deedworlds.errors import NoClosed, NoNumbers
 from deedworlds.models import need_model
 from deedworlds.tablework import cells_with_worths, table_of
@@ -51,10 +51,7 @@ def has_worths(signature, model, numbers):
 def closed_lists(signature, model):
     """All closed lists of a model, in the order of lists."""
     need_model(signature, model)
-    lists = []
-    for mask in range(power(2, model[0])):
-        lists.append([number for number in range(model[0]) if mask >> number & 1])
-    return sorted([numbers for numbers in lists if has_worths(signature, model, numbers)])
+    return sorted([numbers for numbers in rising_lists(model[0]) if has_worths(signature, model, numbers)])
 
 
 def is_closed(signature, model, thing):

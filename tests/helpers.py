@@ -84,6 +84,13 @@ def every_tables(signature, size):
     return itertools.product(*parts)
 
 
+def tables_as_dict(signature, model):
+    """The worths of all cells of a model."""
+    size, tables = model
+    return {(name, args): number for (name, places), table in zip(signature, tables)
+            for args, number in zip(itertools.product(range(size), repeat=places), table)}
+
+
 def worth(signature, model, one, by):
     """What a term comes to by a dict of worths, worked out as point 10 tells it."""
     if one[0] == "var":

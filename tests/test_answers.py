@@ -162,7 +162,7 @@ class JudgedTest(Checks, unittest.TestCase):
                       ("open", (paper,), 9, None), ("open", [], 9, None), ("open", [paper] * 7, 9, None),
                       ("open", [paper], 0, None), ("open", [paper], 61, None), ("open", [paper], True, None),
                       ("open", [paper], "9", None), ("open", [paper], None, None), ("open", None, 9, None),
-                      ("open", [paper], 9, None, None), ("holds", []), (["road"], []), (None, None), nested(300)]:
+                      ("open", [paper], 9, None, None), ("Open", [paper], 9, None), ("holds", []), (["road"], []), (None, None), nested(300)]:
             self.judged(FF, self.claim, thing, ("answer",))
 
     def test_a_road(self):
@@ -205,6 +205,8 @@ class JudgedTest(Checks, unittest.TestCase):
         shut = shut_list(self.three, self.second)
         self.judged(self.three, self.second, ("open", papers, 9, shut), None)
         self.judged(self.three, self.second, ("open", papers, 60, None), None)
+        six = [plain(FF, size) for size in range(1, 7)]
+        self.judged(FF, asked("f(f(x)) = x"), ("open", six, 9, None), None)
         self.judged(self.three, self.second, ("open", papers[:1], 1, None), None)
         self.assertEqual(state_of(self.three, self.second, ("open", papers, 9, shut)), "open")
 

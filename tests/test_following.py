@@ -122,6 +122,7 @@ class RoadForTest(Against, unittest.TestCase):
         fresh = {told for told, reason in all_steps(wide[1], near[0], asked_choices(near), 60)}
         self.assertEqual(len(fresh), 2 * (64 + 256))
         self.assertEqual(self.same_as_words(wide, near, 60), "road")
+        self.assertEqual(self.same_as_words(wide, near, 9), "road")
         self.assertEqual(self.same_as_words(wide, near[:1] + (term("m(m(m(u, v), w), m(m(u, x), u))"),), 60), "many")
 
     def test_just_so_many_come_to(self):

@@ -39,11 +39,22 @@ FILES = {
         build(signature,model,numbers) build_judged(signature,model,numbers,thing)""",
     "leads": """leads(signature,one,other) lead_judged(signature,one,other,thing) product(signature,one,other)
         sides(signature,one,other) image(signature,one,other,lead)""",
+    "joins": """joined(signature,model,pairs) joins(signature,model) covers(signature,model)
+        quotient(signature,model,join) chain(signature,model,pairs,a,b)
+        chain_judged(signature,model,pairs,a,b,thing)""",
+    "free": """row_of(signature,model,letters,term) free_rows(signature,model,letters)
+        free_deed(signature,model,letters,name,rows)""",
+    "nearest": "far_from(signature,one,other) nearest(kind,model) mended(kind,model,*,most=12)",
+    "weights": """weighing_wrong(signature,thing) weight_of(signature,weighing,term)
+        compared(signature,weighing,one,other)""",
+    "lemmas": """lemmas_wrong(kind,thing) spelt(kind,lemmas,number) rules_wrong(kind,weighing,lemmas,thing)
+        pairs_of(kind,weighing,lemmas,rules)""",
 }
 CONSTANTS = {"terms": {"VARIABLES": ("u", "v", "w", "x", "y", "z"), "MOST_PARTS": 60, "MOST_SIDE": 12,
                        "MOST_SIZE": 6},
              "plain": {"MOST_NODES": 1000}, "grown": {"MOST_GROWN": 20000}, "roads": {"MOST_LINES": 600},
-             "following": {"MOST_COME": 500}}
+             "following": {"MOST_COME": 500}, "free": {"MOST_ROWS": 100, "MOST_WORTHS": 64},
+             "lemmas": {"MOST_LEMMAS": 200}}
 METHODS = {"its_signature": ["self"], "as_model": ["self"], "makes": ["self", "name", "args"],
            "with_cell": ["self", "name", "args", "number"], "__init__": ["self", "signature", "size", "tables"],
            "__eq__": None, "__len__": None, "__str__": None}

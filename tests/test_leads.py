@@ -7,7 +7,7 @@ from deedworlds.errors import NoLead, NoModel, NoSignature, TooMany
 from deedworlds.leads import image, lead_judged, leads, product, sides
 from deedworlds.maps import renamed
 from deedworlds.parts import part
-from tests.helpers import MFE, Checks, breaks, fixed_chance, nested, some_model, some_term
+from tests.helpers import MFE, Checks, breaks, fixed_chance, nested, some_model, some_term, tables_as_dict
 from tests.papers import cells_by_words
 
 F = (("f", 1),)
@@ -17,12 +17,6 @@ ROUND = (4, ((1, 2, 3, 0),))
 SWAP = (2, ((1, 0),))
 PLUS = (3, ((0, 1, 2, 1, 2, 0, 2, 0, 1),))
 FIRST = (6, (tuple(number // 6 for number in range(36)),))
-
-
-def tables_as_dict(signature, model):
-    size, tables = model
-    return {(name, args): worth for (name, places), table in zip(signature, tables)
-            for args, worth in zip(itertools.product(range(size), repeat=places), table)}
 
 
 def first_odd(signature, one, other, images):

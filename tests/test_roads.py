@@ -102,6 +102,14 @@ class WrongTest(Checks, unittest.TestCase):
         road[1] = (term("m(x, y)"), road[1][1])
         self.assertIsNone(road_wrong(ONE, road))
 
+    def test_a_step_that_changes_nothing_has_a_path_too(self):
+        still = kind("m/2 f/1 e/0", "x = x")
+        for path, inner in [((), term("f(y)")), ((0,), Y)]:
+            road = [(term("f(y)"), None), (term("f(y)"), (0, False, path, (("x", inner),)))]
+            self.assertIsNone(road_wrong(still, road))
+            for other in [(1,), (0, 0), (5,), (0, 1), (0,) * 70]:
+                self.assertEqual(road_wrong(still, with_reason(road, 1, 2, other)), ("line", 1))
+
     def test_parts(self):
         by = (0, False, (), (("x", tower("f", 58)),))
         self.assertIsNone(road_wrong(FF, [(tower("f", 60), None), (tower("f", 58), by)]))
@@ -271,6 +279,8 @@ class MadeTest(Checks, unittest.TestCase):
                 self.refuses(NoRoad, function, ONE, thing, *things)
         for thing in ANYTHING + [with_reason(ROAD, 2, 0, 7)]:
             self.refuses(NoRoad, road_joined, ONE, ROAD, thing)
+            self.refuses(NoRoad, road_joined, ONE, thing, ROAD[-1:])
+        self.refuses(NoRoad, road_joined, ONE, with_reason(ROAD, 2, 0, 7), [(ROAD[-1][0], None)])
 
     def test_no_term_no_place_no_putting(self):
         for thing in [None, ("var", "a"), tower("f", 61), term("e")[:2], nested(300)]:
