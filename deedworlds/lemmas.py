@@ -65,17 +65,22 @@ def is_rule(signature, weighing, lemma):
     return len(variables_of([left])) <= MOST_RULE_LETTERS and is_heavier(signature, weighing, left, right)
 
 
+def wrong_in_rules(signature, weighing, lemmas, thing):
+    """What rules_wrong tells, of a weighing and lemmas that are known to be right."""
+    if not are_places(thing, len(lemmas)):
+        return ("rules",)
+    for n, place in enumerate(thing):
+        if not is_rule(signature, weighing, lemmas[place]):
+            return ("rule", n)
+    return None
+
+
 def rules_wrong(kind, weighing, lemmas, thing):
     """None of rules of a weighing and lemmas, else the first that is not so."""
     need_kind(kind)
     need_weighing(kind[0], weighing)
     need_lemmas(kind, lemmas)
-    if not are_places(thing, len(lemmas)):
-        return ("rules",)
-    for n, place in enumerate(thing):
-        if not is_rule(kind[0], weighing, lemmas[place]):
-            return ("rule", n)
-    return None
+    return wrong_in_rules(kind[0], weighing, lemmas, thing)
 
 
 def need_rules(kind, weighing, lemmas, rules):

@@ -3,7 +3,7 @@
 from deedworlds.basics import is_below, is_whole
 from deedworlds.errors import NoEquation, NoKind, NoPlace, NoPutting, NoSignature, NoTerm, TooBig
 from deedworlds.termwork import (
-    exchanged, exchanged_many, part_at, parts_many, variables_met, variables_of, with_part,
+    exchanged, exchanged_many, fitting, part_at, parts_many, paths_of, variables_met, variables_of, with_part,
 )
 
 VARIABLES = ("u", "v", "w", "x", "y", "z")
@@ -100,15 +100,7 @@ def variables_in(signature, term):
 def paths_in(signature, term):
     """The paths of a term, in the order of places."""
     need_term(signature, term)
-    paths = []
-    todo = [((), term)]
-    while todo:
-        path, part = todo.pop()
-        paths.append(path)
-        if part[0] == "deed":
-            for k in reversed(range(len(part[2]))):
-                todo.append((path + (k,), part[2][k]))
-    return paths
+    return paths_of(term)
 
 
 def is_path(term, thing):
@@ -169,18 +161,7 @@ def matched(signature, pattern, term):
     """The putting that makes the term of the pattern, or None."""
     need_term(signature, pattern)
     need_term(signature, term)
-    putting = {}
-    todo = [(pattern, term)]
-    while todo:
-        one, other = todo.pop()
-        if one[0] == "var":
-            if putting.setdefault(one[1], other) != other:
-                return None
-        elif other[0] == "var" or one[1] != other[1]:
-            return None
-        else:
-            todo.extend(list(zip(one[2], other[2])))
-    return putting
+    return fitting(pattern, term)
 
 
 def letters_for(terms):

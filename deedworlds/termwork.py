@@ -63,9 +63,8 @@ def exchanged(term, putting):
     return ("deed", term[1], tuple(terms))
 
 
-def exchanged_many(term, putting):
-    """How many parts the exchanged term would have, told without making it."""
-    grown_by = {name: parts_many(putting[name]) for name in putting}
+def grown_many(term, grown_by):
+    """How many parts a term would have, its variables exchanged for terms of so many parts."""
     many = 0
     todo = [term]
     while todo:
@@ -76,6 +75,40 @@ def exchanged_many(term, putting):
         else:
             many += grown_by.get(part[1], 1)
     return many
+
+
+def exchanged_many(term, putting):
+    """How many parts the exchanged term would have, told without making it."""
+    return grown_many(term, {name: parts_many(putting[name]) for name in putting})
+
+
+def fitting(pattern, term):
+    """The putting of the pattern's variables that makes the term of it, or None."""
+    putting = {}
+    todo = [(pattern, term)]
+    while todo:
+        one, other = todo.pop()
+        if one[0] == "var":
+            if putting.setdefault(one[1], other) != other:
+                return None
+        elif other[0] == "var" or one[1] != other[1]:
+            return None
+        else:
+            todo.extend(list(zip(one[2], other[2])))
+    return putting
+
+
+def paths_of(term):
+    """The paths of a term, in the order of places."""
+    paths = []
+    todo = [((), term)]
+    while todo:
+        path, part = todo.pop()
+        paths.append(path)
+        if part[0] == "deed":
+            for k in reversed(range(len(part[2]))):
+                todo.append((path + (k,), part[2][k]))
+    return paths
 
 
 def text_of(term):

@@ -49,12 +49,25 @@ FILES = {
         compared(signature,weighing,one,other)""",
     "lemmas": """lemmas_wrong(kind,thing) spelt(kind,lemmas,number) rules_wrong(kind,weighing,lemmas,thing)
         pairs_of(kind,weighing,lemmas,rules)""",
+    "forms": "form_of(kind,weighing,lemmas,rules,term) uses_road(kind,weighing,lemmas,rules,term,uses)",
+    "overlaps": """unified(signature,one,other) pair_wrong(signature,thing) overlap_of(signature,first,second,path)
+        overlaps(signature,pairs) uses_at(signature,pairs,term) used(signature,pairs,term,use)
+        join_wrong(signature,pairs,one,other,thing)""",
+    "completion": "completed(kind,weighing,*,most=40,parts=25) tidied(kind,paper) rule_set(kind,paper)",
+    "complete": """complete_wrong(kind,thing) decided(kind,paper,equation) decided_wrong(kind,paper,equation,thing)
+        road_by(kind,paper,equation)""",
+    "conjectures": """small_terms(signature,*,parts=4,letters=2) down(signature,equations,term)
+        classes(kind,size,*,parts=4,letters=2) conjectures(kind,size,*,parts=4,letters=2)
+        all_partings(kind,size,*,parts=4,letters=2) low_of(signature,equations,term) parting(kind,equation,size)
+        conjectures_judged(kind,size,thing,*,parts=4,letters=2)""",
+    "readings": """reading_wrong(signature,other,thing) term_read(signature,other,reading,term)
+        model_read(signature,other,reading,model) two_read(first,second,third,one,two)""",
 }
 CONSTANTS = {"terms": {"VARIABLES": ("u", "v", "w", "x", "y", "z"), "MOST_PARTS": 60, "MOST_SIDE": 12,
                        "MOST_SIZE": 6},
              "plain": {"MOST_NODES": 1000}, "grown": {"MOST_GROWN": 20000}, "roads": {"MOST_LINES": 600},
              "following": {"MOST_COME": 500}, "free": {"MOST_ROWS": 100, "MOST_WORTHS": 64},
-             "lemmas": {"MOST_LEMMAS": 200}}
+             "lemmas": {"MOST_LEMMAS": 200}, "conjectures": {"MOST_SMALL": 400, "MOST_DOWN": 500, "MOST_TOLD": 100}}
 METHODS = {"its_signature": ["self"], "as_model": ["self"], "makes": ["self", "name", "args"],
            "with_cell": ["self", "name", "args", "number"], "__init__": ["self", "signature", "size", "tables"],
            "__eq__": None, "__len__": None, "__str__": None}
