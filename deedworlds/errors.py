@@ -140,7 +140,7 @@ class TooMany(DeedError):
 class NoAnswer(DeedError):
     """No right answer: wrong is what the judge tells."""
 
-    def __init__(self, wrong):
+    def __init__(self, wrong=None):
         super().__init__(f"wrong {wrong}")
         self.wrong = wrong
 
@@ -148,7 +148,7 @@ class NoAnswer(DeedError):
 class NoDeed(DeedError):
     """No deed of a house: at is its number in the list."""
 
-    def __init__(self, at):
+    def __init__(self, at=None):
         super().__init__(f"at {at}")
         self.at = at
 
@@ -156,7 +156,7 @@ class NoDeed(DeedError):
 class NoFit(DeedError):
     """Two deeds of this name don't fit each other."""
 
-    def __init__(self, name):
+    def __init__(self, name=None):
         super().__init__(f"name {name}")
         self.name = name
 
@@ -164,7 +164,7 @@ class NoFit(DeedError):
 class NoLeading(DeedError):
     """No leading: wrong says why."""
 
-    def __init__(self, wrong):
+    def __init__(self, wrong=None):
         super().__init__(f"wrong {wrong}")
         self.wrong = wrong
 
@@ -172,7 +172,7 @@ class NoLeading(DeedError):
 class NoLemmas(DeedError):
     """No lemmas: wrong says why."""
 
-    def __init__(self, wrong):
+    def __init__(self, wrong=None):
         super().__init__(f"wrong {wrong}")
         self.wrong = wrong
 
@@ -180,7 +180,7 @@ class NoLemmas(DeedError):
 class NoPaper(DeedError):
     """No complete paper: wrong says why."""
 
-    def __init__(self, wrong):
+    def __init__(self, wrong=None):
         super().__init__(f"wrong {wrong}")
         self.wrong = wrong
 
@@ -188,7 +188,7 @@ class NoPaper(DeedError):
 class NoSearch(DeedError):
     """No search paper: wrong is what search_judged tells."""
 
-    def __init__(self, wrong):
+    def __init__(self, wrong=None):
         super().__init__(f"wrong {wrong}")
         self.wrong = wrong
 
@@ -196,7 +196,7 @@ class NoSearch(DeedError):
 class NoText(DeedError):
     """No such text: row is the first line that is none, at how far it could be one."""
 
-    def __init__(self, row, at):
+    def __init__(self, row=None, at=None):
         super().__init__(f"row {row}, at {at}")
         self.row = row
         self.at = at
@@ -205,6 +205,6 @@ class NoText(DeedError):
 class NoUse(DeedError):
     """No use: at is its number."""
 
-    def __init__(self, at):
+    def __init__(self, at=None):
         super().__init__(f"at {at}")
         self.at = at

@@ -39,6 +39,11 @@ class ErrorsTest(unittest.TestCase):
                 self.assertIsInstance(one, ValueError)
                 self.assertEqual([getattr(one, field) for field in fields], values)
 
+    def test_made_of_nothing_all_the_same(self):
+        for name, fields in WITH.items():
+            self.assertEqual([getattr(getattr(errors, name)(), field) for field in fields], [None] * len(fields))
+            self.assertEqual(getattr(getattr(errors, name)("why"), fields[0]), "why")
+
     def test_no_text_by_names_in_any_order(self):
         one = errors.NoText(at=3, row=1)
         self.assertEqual((one.row, one.at), (1, 3))

@@ -62,12 +62,29 @@ FILES = {
         conjectures_judged(kind,size,thing,*,parts=4,letters=2)""",
     "readings": """reading_wrong(signature,other,thing) term_read(signature,other,reading,term)
         model_read(signature,other,reading,model) two_read(first,second,third,one,two)""",
+    "leadings": "leading_wrong(kind,other,thing) led_road(kind,other,leading,equation,road)",
+    "joined": """renaming_wrong(signature,thing) called(signature,renaming) called_term(signature,renaming,term)
+        called_equation(signature,renaming,equation) called_kind(kind,renaming) called_road(kind,renaming,road)
+        moved_road(one,other,which,road) joined_signature(one,other) joined_kind(one,other) places_in_join(one,other)
+        moved_answer(one,other,which,equation,answer) widened(one,other,which,model)""",
+    "judge": """claim_judged(kind,equation,thing) claim_state(kind,equation,answer)
+        found_answer(kind,equation,size,*,paper=None,parts=9)""",
+    "papertexts": "paper_text(thing,*,deep=300) read_paper(text,*,deep=300)",
 }
 CONSTANTS = {"terms": {"VARIABLES": ("u", "v", "w", "x", "y", "z"), "MOST_PARTS": 60, "MOST_SIDE": 12,
                        "MOST_SIZE": 6},
              "plain": {"MOST_NODES": 1000}, "grown": {"MOST_GROWN": 20000}, "roads": {"MOST_LINES": 600},
              "following": {"MOST_COME": 500}, "free": {"MOST_ROWS": 100, "MOST_WORTHS": 64},
-             "lemmas": {"MOST_LEMMAS": 200}, "conjectures": {"MOST_SMALL": 400, "MOST_DOWN": 500, "MOST_TOLD": 100}}
+             "lemmas": {"MOST_LEMMAS": 200}, "conjectures": {"MOST_SMALL": 400, "MOST_DOWN": 500, "MOST_TOLD": 100},
+             "joined": {"MOST_WAYS": 2000}, "papertexts": {"MOST_DEEP": 300}}
+HOUSE = """__init__(self,*,size=3,parts=7) __len__(self) begin(self,title,signature) end(self,title)
+    drop(self,title,number) teach(self,title,paper) back(self) again(self) put(self,title,equation)
+    strike(self,title,number) settle(self,title) lead(self,title,other,leading) take(self,title,other,leading)
+    suppose(self,title,parts,letters) join(self,title,one,other,renaming) claim(self,title,equation)
+    ask(self,title,number) learn(self,title,number,answer) deeds(self,rows,*,keep=False) books(self)
+    claims(self,title) states(self,title) searched(self) log(self) kind(self,title) paper(self,title)
+    known(self,title,number) leaning(self,title,number)"""
+DESK = "__init__(self,*,size=3,parts=7) say(self,text)"
 METHODS = {"its_signature": ["self"], "as_model": ["self"], "makes": ["self", "name", "args"],
            "with_cell": ["self", "name", "args", "number"], "__init__": ["self", "signature", "size", "tables"],
            "__eq__": None, "__len__": None, "__str__": None}
@@ -102,6 +119,14 @@ class InterfaceTest(unittest.TestCase):
             self.assertIn(name, methods)
             if args is not None:
                 self.assertEqual(methods[name], args)
+
+    def test_methods_of_house_and_desk(self):
+        for name, title, listed in (("houses", "House", HOUSE), ("desk", "Desk", DESK)):
+            rows = defined_in(name)[title].body
+            methods = {row.name: row for row in rows if isinstance(row, ast.FunctionDef)}
+            for one in listed.split():
+                method, args = one.rstrip(")").split("(")
+                self.assertEqual(ast.unparse(methods[method].args).replace(" ", ""), args)
 
 
 class FilesTest(unittest.TestCase):
