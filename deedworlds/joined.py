@@ -195,7 +195,6 @@ def moved_answer(one, other, which, equation, answer):
     both = joined_kind(one, other)
     need_which(which)
     kind = (one, other)[which]
-    need_equation(kind[0], equation)
     wrong = answer_judged(kind, equation, answer)
     if wrong is not None:
         raise NoAnswer(wrong)

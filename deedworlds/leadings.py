@@ -3,7 +3,7 @@
 from deedworlds.errors import NoLeading, NoPaper, TooBig, TooMany
 from deedworlds.readings import parts_read, read_by, reading_by_names, reading_wrong, small_read_by
 from deedworlds.roads import MOST_LINES, judged_by_steps, road_judged, with_letters
-from deedworlds.terms import MOST_PARTS, VARIABLES, need_equation, need_kind
+from deedworlds.terms import MOST_PARTS, VARIABLES, need_kind
 from deedworlds.termwork import exchanged, grown_many, part_at, parts_many, paths_of, variables_of, with_part
 
 
@@ -123,8 +123,7 @@ def lines_led(by_names, roads, road):
     for at in range(1, len(road)):
         number, turned, path, put = road[at][1]
         steps = steps_along(roads[number], turned)
-        # a road of one line may stand for copies beyond all count
-        copies = copies_of(by_names, road[at - 1][0], path) if steps else []
+        copies = copies_of(by_names, road[at - 1][0], path)
         if copies:
             putting = small_putting(by_names, put, roads[number])
             for copy in copies:
@@ -144,7 +143,6 @@ def led_by(kind, leading, road):
 def led_road(kind, other, leading, equation, road):
     """A road of an equation as read by the other kind, of one by the first kind."""
     need_leading(kind, other, leading)
-    need_equation(kind[0], equation)
     wrong = road_judged(kind, equation, road)
     if wrong is not None:
         raise NoPaper(wrong)

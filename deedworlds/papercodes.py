@@ -1,6 +1,5 @@
 """Codes for things: two things have one code just where they are the same."""
 
-SMALL_LETTERS = "abcdefghijklmnopqrstuvwxyz"
 WORDS = {"none": None, "yes": True, "no": False}
 CLOSING = {"(": ")", "[": "]", "{": "}"}
 

@@ -53,7 +53,7 @@ def written_around(coding, thing, inner):
     code = coding.code_around(opening, keys, [one[1] for one in inner])
     depth = 1 + max([one[2] for one in inner], default=0)
     if code in coding.whole_numbers:
-        return (f"#{coding.whole_numbers[code]}", code, depth)
+        return ("#" + str(coding.whole_numbers[code]), code, depth)
     if inner:
         coding.number_next(code)
     return (text_around(opening, keys, [one[0] for one in inner]), code, depth)

@@ -1,5 +1,6 @@
 """Small terms of a signature, and which of them come to the same in given models."""
 
+from deedworlds.basics import power
 from deedworlds.tablework import letter_column, table_of
 from deedworlds.terms import VARIABLES
 from deedworlds.termwork import text_of
@@ -42,38 +43,44 @@ def all_small_terms(signature, parts, letters):
     return told
 
 
-def columns_in(signature, model, letters, terms, texts):
-    """What each small term comes to by all worths for the letters; terms stand behind their own parts."""
-    size, tables = model
-    names = VARIABLES[:letters]
-    rows = len(letter_column(size, letters, 0)) if letters else 1
-    by_text = {}
+def parts_by_places(terms):
+    """For each term its head and the places of its own terms in the list; terms stand behind their own parts."""
+    place_of = {text_of(term): place for place, term in enumerate(terms)}
     told = []
-    for term, text in zip(terms, texts):
-        if term[0] == "var":
-            column = tuple(letter_column(size, letters, names.index(term[1])))
+    for term in terms:
+        below = term[2] if term[0] == "deed" else ()
+        told.append((term[1], [place_of[text_of(part)] for part in below]))
+    return told
+
+
+def columns_in(signature, model, letters, rows):
+    """What each small term, by its head and places of terms, comes to by all worths for the letters."""
+    size, tables = model
+    many = power(size, letters)
+    told = []
+    for head, below in rows:
+        if head in VARIABLES:
+            told.append(tuple(letter_column(size, letters, VARIABLES.index(head))))
+            continue
+        table = table_of(signature, tables, head)
+        if not below:
+            told.append((table[0],) * many)
+        elif len(below) == 1:
+            told.append(tuple([table[number] for number in told[below[0]]]))
         else:
-            table = table_of(signature, tables, term[1])
-            below = [by_text[text_of(part)] for part in term[2]]
-            if not below:
-                column = tuple([table[0]] * rows)
-            elif len(below) == 1:
-                column = tuple([table[number] for number in below[0]])
-            else:
-                column = tuple([table[one * size + other] for one, other in zip(below[0], below[1])])
-        by_text[text] = column
-        told.append(column)
+            firsts, seconds = told[below[0]], told[below[1]]
+            told.append(tuple([table[one * size + other] for one, other in zip(firsts, seconds)]))
     return told
 
 
 def lots_by_columns(signature, models, letters, terms):
     """The lists of the places of terms that come to the same in all models, each rising, by their first ones."""
-    texts = [text_of(term) for term in terms]
+    rows = parts_by_places(terms)
     lots = [0] * len(terms)
     for model in models:
         met = {}
         fresh = []
-        for lot, column in zip(lots, columns_in(signature, model, letters, terms, texts)):
+        for lot, column in zip(lots, columns_in(signature, model, letters, rows)):
             fresh.append(met.setdefault((lot, column), len(met)))
         lots = fresh
     told = {}

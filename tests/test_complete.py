@@ -141,6 +141,8 @@ class DecidedTest(Checks, unittest.TestCase):
                 self.assertEqual(told[0], "holds" if ends[0] == ends[1] else "parted")
                 self.assertIsNone(decided_wrong(the_kind, paper, asked, told))
                 road = road_by(the_kind, paper, asked)
+                more = changed(paper, 1, paper[1] + [one_step(the_kind, 0)] * 3)
+                self.assertEqual(road_by(the_kind, more, asked), road)
                 if told[0] == "holds":
                     self.assertIsNone(road_judged(the_kind, asked, road))
                     self.assertEqual(decided(the_kind, paper, asked[::-1])[0], "holds")

@@ -4,6 +4,7 @@ import itertools
 import unittest
 
 from deedworlds.complete import complete_wrong
+from deedworlds.completing import Completing
 from deedworlds.completion import completed, rule_set, tidied
 from deedworlds.errors import NoKind, NoNumber, NoPaper, NoWeighing, TooBig, TooMany
 from deedworlds.forms import form_of
@@ -111,8 +112,9 @@ class CompletedTest(Checks, unittest.TestCase):
             self.hold_against((signature, tuple(equations)), (weights, rank), most=8, parts=10)
 
     def test_looked_at_too_many(self):
-        # braids never end: the overlaps gone over in all rounds come to more than 2000
-        the_kind, weighing = kind(*KINDS[8]), ((1, 1), (0, 1))
+        # of this kind a rule is put at the 2000th one gone over, and one more would be at the next
+        the_kind = kind("m/2 f/1", "m(u, f(v)) = m(v, u)", "f(m(u, v)) = m(m(v, f(u)), f(v))")
+        weighing = ((1, 1), (1, 0))
         told = completed(the_kind, weighing)
         rounds = Rounds(the_kind, weighing)
         self.assertEqual((rounds.ending, rounds.looked), ("at once", 2000))
@@ -231,6 +233,35 @@ class TidiedTest(Checks, unittest.TestCase):
         self.assertEqual((told[0], [told[1][place][:2] for place in told[2]]), ("stopped", [step[:2] for step in steps]))
         less = kind("f/1 g/1 h/1 i/1", *lines[:3])
         self.assertEqual(completed(less, weighing)[0], "complete")
+
+    def test_too_many_lemmas(self):
+        # each lemma goes by the one ahead; the rule with a right term that isn't its form wants one more
+        the_kind = kind("f/1 g/1", "f(x) = x", "g(x) = f(x)")
+        for many, error in ((198, False), (199, True)):
+            lemmas = [one_step(the_kind, 0)]
+            while len(lemmas) < many:
+                left, right, lines = lemmas[0]
+                reason = (2 + len(lemmas) - 1,) + lines[1][1][1:]
+                lemmas.append((left, right, [lines[0], (right, reason)]))
+            lemmas.append(one_step(the_kind, 1))
+            paper = (((1, 2), (0, 1)), lemmas, [many - 1, many], [([(0, ())], []), ([(1, ())], [])], [])
+            self.assertIsNone(complete_wrong(the_kind, paper))
+            if error:
+                self.refuses(TooMany, tidied, the_kind, paper)
+            else:
+                told = tidied(the_kind, paper)
+                self.assertIsNone(complete_wrong(the_kind, told))
+                self.assertEqual(len(told[1]), 200)
+                self.assertEqual(len(rule_set(the_kind, told)), 2)
+
+    def test_room_for_those_left(self):
+        the_kind = kind(*KINDS[2])
+        completing = Completing(the_kind, ((1, 1), (0, 1)), 40, 25)
+        left = completing.left_of_rounds()
+        many = len(completing.lemmas)
+        word, lemmas, rules, places = completing.stopped(left * 50)
+        self.assertGreater(len(left) * 50, 200)
+        self.assertEqual((len(lemmas), rules, places), (200, list(range(many)), list(range(many, 200))))
 
     def test_stays_complete(self):
         for lines in KINDS:

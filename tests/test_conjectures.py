@@ -7,6 +7,8 @@ from deedworlds.conjectures import (
     all_partings, classes, conjectures, conjectures_judged, down, low_of, parting, small_terms,
 )
 from deedworlds.counting import all_models
+from deedworlds.lowering import Lowering
+from deedworlds.smallterms import many_by_parts
 from deedworlds.errors import NoEquation, NoKind, NoNumber, NoSignature, NoSize, NoTerm, TooMany
 from deedworlds.texts import least_equation, term_text
 from tests.helpers import (
@@ -115,6 +117,7 @@ class SmallTest(Checks, unittest.TestCase):
             for parts in range(1, 6):
                 for letters in range(3):
                     expected = every_small(signature, parts, letters)
+                    self.assertEqual(sum(many_by_parts(signature, parts, letters)), len(expected))
                     if len(expected) > 400:
                         self.refuses(TooMany, small_terms, signature, parts=parts, letters=letters)
                     else:
@@ -190,6 +193,23 @@ class DownTest(Checks, unittest.TestCase):
             self.assertEqual(low_of(MFE, equations, one), lines[-1][0])
         self.assertGreater(steps, 150)
 
+    def test_equations_put_one_behind_the_other(self):
+        chance = fixed_chance(53)
+        better = 0
+        for k in range(150):
+            lowering = Lowering([])
+            equations = []
+            ones = [some_term(chance, MFE, chance.randint(3, 9), "uv") for n in range(4)]
+            for n in range(5):
+                rows = [some_term(chance, MFE, chance.randint(1, 5), "uv") for side in range(2)]
+                equations.append(tuple(rows))
+                lowering.put_equation(tuple(rows))
+                for one in ones:
+                    told = [line[0] for line in lowering.lines_down(one, 500)]
+                    self.assertEqual(told, row_down(equations, one))
+                    better += len(told) > 2
+        self.assertGreater(better, 20)
+
     def test_plain(self):
         equations = [equation("u = e"), equation("m(u, v) = m(v, u)")]
         self.assertEqual(low_of(MFE, equations, term("m(x, f(y))")), term("e"))
@@ -264,6 +284,7 @@ class ConjecturesTest(Checks, unittest.TestCase):
         self.assertEqual(judge([broken, broken] + told), ("breaks", 0, model, worths))
         self.assertEqual(judge([told[0], told[0], broken]), ("breaks", 2, model, worths))
         self.assertEqual(judge([told[0], told[0]] + told[1:]), ("needless", 1))
+        self.assertEqual(judge([told[0]] * 100), ("needless", 1))
         self.assertEqual(judge(told + [told[0][::-1]]), ("needless", len(told)))
         self.assertEqual(judge([equation("m(e, u) = u", MONOID[0])]), ("needless", 0))
         for k in range(len(told)):
@@ -276,19 +297,19 @@ class ConjecturesTest(Checks, unittest.TestCase):
         exchanged = told[1:] + told[:1]
         self.assertEqual(judge(exchanged), self.by_words(exchanged, size, parts))
 
-    def pairs(self, size, parts):
+    def pairs(self, size, parts, the_kind=MONOID):
         firsts = {}
-        for together in every_class(MONOID, size, parts, 2):
+        for together in every_class(the_kind, size, parts, 2):
             for one in together[1:]:
                 firsts[one] = together[0]
-        return [(firsts[one], one) for one in every_small(MONOID[0], parts, 2) if one in firsts]
+        return [(firsts[one], one) for one in every_small(the_kind[0], parts, 2) if one in firsts]
 
-    def is_lacking(self, pair, thing):
-        least = least_equation(MONOID[0], pair)
-        if least in [least_equation(MONOID[0], one) for one in thing]:
+    def is_lacking(self, pair, thing, the_kind=MONOID):
+        least = least_equation(the_kind[0], pair)
+        if least in [least_equation(the_kind[0], one) for one in thing]:
             return False
         for k in range(len(thing) + 1):
-            equations = list(MONOID[1]) + thing[:k]
+            equations = list(the_kind[1]) + thing[:k]
             if low(equations, pair[0]) == low(equations, pair[1]):
                 return False
             if low(equations, least[0]) == low(equations, least[1]):
@@ -298,15 +319,30 @@ class ConjecturesTest(Checks, unittest.TestCase):
     def first_pair(self, size, parts):
         return [pair for pair in self.pairs(size, parts) if self.is_lacking(pair, [])][0]
 
-    def by_words(self, thing, size, parts):
+    def by_words(self, thing, size, parts, the_kind=MONOID, pairs=None):
         for k, one in enumerate(thing):
-            equations = list(MONOID[1]) + thing[:k]
+            equations = list(the_kind[1]) + thing[:k]
             if low(equations, one[0]) == low(equations, one[1]):
                 return ("needless", k)
-        for pair in self.pairs(size, parts):
-            if self.is_lacking(pair, thing):
+        for pair in pairs or self.pairs(size, parts, the_kind):
+            if self.is_lacking(pair, thing, the_kind):
                 return ("lacking", pair)
         return None
+
+    def test_judged_where_letters_matter(self):
+        # of these kinds two terms have one low term and the sides of their least equation haven't, and the other way about
+        for the_kind, size, parts in ((kind("f/1 m/2", "u = m(m(u, x), x)", "f(x) = f(v)"), 2, 4), (kind("m/2", "m(v, u) = u"), 1, 5),
+                                      (kind("f/1 m/2", "f(v) = m(u, f(f(v)))"), 2, 3)):
+            told = conjectures(the_kind, size, parts=parts)
+            self.assertEqual(told, every_conjecture(the_kind, size, parts, 2))
+            pairs = self.pairs(size, parts, the_kind)
+            for k in range(-1, len(told)):
+                thing = told[:k] + told[k + 1:] if k >= 0 else told
+                self.assertEqual(conjectures_judged(the_kind, size, thing, parts=parts),
+                                 self.by_words(thing, size, parts, the_kind, pairs))
+            thing = told[::-1]
+            self.assertEqual(conjectures_judged(the_kind, size, thing, parts=parts),
+                             self.by_words(thing, size, parts, the_kind, pairs))
 
     def test_judged_refused(self):
         self.refuses(NoKind, conjectures_judged, 1, 0, None)

@@ -58,6 +58,11 @@ class SaidTest(Checks, unittest.TestCase):
         self.assertEqual(len(read_paper(desk.say("log"))), 21)
         self.assertEqual(len(read_paper(desk.say("searched"))), 4)
 
+    def test_titles_that_are_words(self):
+        desk = desk_of("begin no f/1", "begin none f/1", "claim no x = x", "ask no 0")
+        self.assertEqual([desk.say(text) for text in ("books", "states no", "states none", "join yes no none (f)", "states yes")],
+                         ["no none", "holds", "", "0", "holds"])
+
     def test_empty_ones(self):
         desk = desk_of("begin a f/1")
         self.assertEqual([desk.say(text) for text in ("states a", "claims a", "show a", "paper a", "searched", "settle a")],

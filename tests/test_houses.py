@@ -257,6 +257,35 @@ class LeadTest(Checks, unittest.TestCase):
         house.back()
         self.assertEqual(house.states("one"), ["unasked"] * 4)
 
+    def test_lead_what_is_no_equation_as_read(self):
+        house = House(size=2, parts=9)
+        house.begin("one", (("f", 1), ("g", 1)))
+        house.begin("other", (("h", 1),))
+        for line in ("f(f(f(x))) = f(f(f(x)))", "f(f(x)) = f(f(x))", "g(g(g(g(x)))) = g(g(g(g(x))))", "x = x"):
+            house.claim("one", equation(line, LOOPS[0]))
+        house.settle("one")
+        # f as four deeds, g as twenty: thirteen parts, nine, more than sixty, one
+        leading = ((tower("h", 5, var("u")), tower("h", 21, var("u"))), [])
+        self.assertEqual(house.lead("one", "other", leading), [0, 1])
+        self.assertEqual(house.claims("other"), [(tower("h", 9), tower("h", 9)), (var("x"), var("x"))])
+        self.assertEqual(house.take("one", "other", leading), [])
+
+    def test_take_what_was_open(self):
+        house = self.two("g(x) = x", others=("h(x) = x",))
+        house.learn("one", 0, answered(FIRST, house.claims("one")[0], 1, parts=3))
+        house.ask("other", 0)
+        self.assertEqual((house.states("one"), house.states("other")), (["open"], ["refuted"]))
+        self.assertEqual(house.take("one", "other", exchanging()), [0])
+        self.assertEqual(house.states("one"), ["refuted"])
+
+    def test_lead_over_an_open_one(self):
+        house = self.two("g(g(g(x))) = g(x)", others=("h(x) = h(x)", "h(h(h(x))) = h(x)", "h(h(h(x))) = h(x)"))
+        house.ask("one", 0)
+        house.learn("other", 1, answered(OTHER, house.claims("other")[1], 1, parts=2))
+        self.assertEqual(house.states("other"), ["unasked", "open", "unasked"])
+        self.assertEqual(house.lead("one", "other", exchanging()), [1])
+        self.assertEqual(house.states("other"), ["unasked", "holds", "unasked"])
+
     def test_take_letters_that_it_lacks(self):
         house = House(size=2)
         house.begin("one", (("n", 2),))

@@ -150,6 +150,8 @@ class JoinTest(Checks, unittest.TestCase):
 
 class MovedTest(Checks, unittest.TestCase):
     PAIRS = ((SEMI, UNIT), (UNIT, SEMI), (UNIT, TURNS), (TURNS, SEMI), (UNIT, UNIT),
+             (kind("m/2 f/1", "m(x, y) = f(m(y, x))", "m(m(z, y), x) = x"),
+              kind("f/1 m/2", "f(m(u, v)) = m(v, u)", "z = m(m(x, y), z)", "f(m(x, m(z, y))) = m(f(y), x)")),
              (kind("m/2", "m(x, y) = m(y, x)", "x = m(x, x)"), kind("m/2", "m(v, v) = v", "m(w, u) = m(u, w)")))
 
     def test_roads(self):

@@ -62,6 +62,8 @@ class JudgedTest(Checks, unittest.TestCase):
             self.refuses(NoKind, function, 1, 2, 3)
             for thing in (2, None, (var("x"),), (var("x"), tower("f", 13))):
                 self.refuses(NoEquation, function, LOOPS, thing, 3)
+                self.refuses(NoEquation, function, LOOPS, thing, ("rules", 1, 2))
+                self.refuses(NoEquation, function, LOOPS, thing, ("rules", 1))
 
 
 class FoundTest(Checks, unittest.TestCase):

@@ -88,6 +88,7 @@ class LeadingTest(Checks, unittest.TestCase):
     def test_refused(self):
         self.refuses(NoKind, leading_wrong, 1, 2, 3)
         self.refuses(NoKind, leading_wrong, ONE, 2, 3)
+        self.refuses(NoKind, leading_wrong, 1, OTHER, exchanging())
 
 
 class LedTest(Checks, unittest.TestCase):
@@ -160,6 +161,44 @@ class LedTest(Checks, unittest.TestCase):
             road.append((one, (1, k > other, (), pairs)))
         self.assertIsNone(road_judged(third, (less, less), road))
         self.refuses(TooBig, led_road, third, OTHER, leading, (less, less), road)
+
+    def test_dropped_and_great(self):
+        # the place is dropped: what is put there would have very many parts as read
+        third, reading, roads = doubling()
+        begin, end = (deed("n", tower("g", k, var("y")), var("x")) for k in (11, 10))
+        road = [(begin, None), (end, (1, False, (0,), (("x", tower("g", 9, var("y"))),)))]
+        asked = (deed("n", deed("a"), var("x")), end)
+        whole = [(asked[0], None), (begin, (2, False, (), (("x", var("x")), ("y", tower("g", 11, var("y"))))))] + road[1:]
+        self.assertIsNone(road_judged(third, asked, whole))
+        self.assertEqual(len(led_road(third, OTHER, (reading, roads), asked, whole)), 5)
+
+    def test_just_sixty(self):
+        one = kind("g/1 c/0 k/1 n/2", "g(x) = x")
+        leading = ((var("u"), tower("h", 60, deed("e")), deed("h", var("u")), deed("m", var("u"), var("v"))),
+                   [[(var("x"), None), (deed("m", deed("e"), var("x")), (2, True, (), (("x", var("x")),))),
+                     (var("x"), (2, False, (), (("x", var("x")),)))]])
+        self.assertIsNone(leading_wrong(one, OTHER, leading))
+        low = (leading[0][:1] + (tower("h", 58, deed("e")),) + leading[0][2:], leading[1])
+        for inner, reading, error in ((deed("c"), low, None), (deed("k", deed("c")), low, TooBig), (deed("c"), leading, TooBig)):
+            begin = deed("g", inner)
+            road = [(begin, None), (inner, (0, False, (), (("x", inner),)))]
+            if error:
+                self.refuses(error, led_road, one, OTHER, reading, (begin, inner), road)
+                self.assertEqual(len(led_road(one, OTHER, low, (deed("c"), deed("c")), [(deed("c"), None)])), 1)
+            else:
+                told = led_road(one, OTHER, reading, (begin, inner), road)
+                self.assertEqual(max(count_parts(line[0]) for line in told), 60)
+        # a part of 28 parts beside one of 28 in a term of 57, and both of 29 in one of 59
+        for parts in (28, 29):
+            half = (leading[0][:1] + (tower("h", parts, deed("e")),) + leading[0][2:], leading[1])
+            begin, end = deed("n", deed("c"), deed("g", deed("c"))), deed("n", deed("c"), deed("c"))
+            road = [(begin, None), (end, (0, False, (1,), (("x", deed("c")),)))]
+            if parts == 28:
+                told = led_road(one, OTHER, half, (begin, end), road)
+                self.assertEqual(max(count_parts(line[0]) for line in told), 59)
+            else:
+                self.refuses(TooBig, led_road, one, OTHER, half, (begin, end), road)
+        self.assertEqual(len(led_road(one, OTHER, leading, (deed("c"), deed("c")), [(deed("c"), None)])), 1)
 
     def long_leading(self, steps):
         """A leading whose one road stays at its place for many steps."""

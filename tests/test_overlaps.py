@@ -171,7 +171,13 @@ class OverlapTest(Checks, unittest.TestCase):
         both = [(term("f(u)"), term("e")), (term("f(e)"), term("e"))]
         self.assertEqual(overlaps(MFE, both), [(0, 1, (), term("f(e)"), term("e"), term("e"))])
 
+    def test_a_variable_in_its_own_term(self):
+        self.assertIsNone(overlap_of(MFE, (term("m(u, f(u))"), term("e")), (term("m(u, u)"), term("e")), ()))
+        self.assertEqual(overlaps(MFE, [(term("m(u, f(u))"), term("e")), (term("m(v, v)"), term("v"))]), [])
+
     def test_too_big_of_each_alone(self):
+        whole = (deed("m", tower("f", 58), term("e")), term("e"))
+        self.assertEqual(count_parts(overlap_of(MFE, (deed("m", var("u"), var("v")), term("e")), whole, ())[0]), 60)
         flat = (deed("f", deed("m", var("u"), var("v"))), term("e"))
         for parts, error in ((57, None), (58, TooBig)):
             second = (deed("m", tower("f", parts), term("e")), term("e"))
@@ -203,6 +209,7 @@ class OverlapTest(Checks, unittest.TestCase):
             self.refuses(NoPair, overlaps, MFE, [right, thing])
         self.refuses(NoSignature, overlap_of, 1, 2, 3, 4)
         self.refuses(NoSignature, overlaps, 1, [2])
+        self.refuses(NoSignature, overlaps, (), [])
         for path in ((1,), (2,), (0, 0), [], None, (True,), (0.0,), "0", 0, (False,), (-1,), nested(300)):
             self.refuses(NoPlace, overlap_of, MFE, right, right, path)
 

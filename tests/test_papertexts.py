@@ -257,6 +257,10 @@ class WrittenTest(Checks, unittest.TestCase):
         self.breaks_at(0, 300, read_paper, "(" * 5000)
         self.refuses(TooDeep, paper_text, [], deep=0)
         self.assertEqual(paper_text((), deep=1), "()")
+        # an empty one counts one, also where it is written by #
+        self.assertEqual(read_paper("[(()) #0]", deep=3), [((),), ((),)])
+        self.assertEqual(paper_text([((),), ((),)], deep=3), "[(()) #0]")
+        self.breaks_at(0, 2, lambda text: read_paper(text, deep=2), "[(()) #0]")
         # those that are written by # count too
         thing = [[[1]], [[[1]]]]
         self.assertEqual(paper_text(thing, deep=4), "[[[1]] [#1]]")

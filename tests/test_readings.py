@@ -53,6 +53,7 @@ class ReadingTest(Checks, unittest.TestCase):
         self.assertEqual(reading_wrong(ONE, OTHER, READING[:2] + (term("u"),)), ("deed", 2))
         self.refuses(NoSignature, reading_wrong, (), 1, 2)
         self.refuses(NoSignature, reading_wrong, ONE, (), 2)
+        self.refuses(NoSignature, reading_wrong, (("f", 3),), OTHER, READING[:1])
 
     def test_terms(self):
         self.assertEqual(term_read(ONE, OTHER, READING, term("n(g(x), a)", ONE)), term("m(f(e), f(m(x, x)))"))
@@ -138,6 +139,9 @@ class ReadingTest(Checks, unittest.TestCase):
             self.refuses(NoSignature, two_read, *signatures, 1, 2)
         self.refuses(NoReading, two_read, ONE, OTHER, THIRD, 1, 2)
         self.refuses(NoReading, two_read, ONE, OTHER, THIRD, READING, READING)
+        right = (deed("d", var("u"), var("v")), deed("h", var("u")), deed("b"))
+        self.assertEqual(len(two_read(ONE, OTHER, THIRD, READING, right)), 3)
+        self.refuses(NoReading, two_read, ONE, OTHER, THIRD, READING[:2] + (var("u"),), right)
 
 
 if __name__ == "__main__":
