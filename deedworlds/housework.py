@@ -1,5 +1,6 @@
 """The deeds of a house: each tells what is told of it, the shelf behind it, and whether it counts as a deed."""
 
+from deedworlds.answers import answered
 from deedworlds.basics import is_below
 from deedworlds.books import (
     MOST_BOOKS, MOST_CLAIMS, Book, book_of, need_claim, need_new_title, place_of_title, with_book,
@@ -9,7 +10,7 @@ from deedworlds.conjectures import conjectures
 from deedworlds.copying import own_copy
 from deedworlds.errors import NoAnswer, NoNumber, TooBig, TooMany
 from deedworlds.joined import called_kind, joined_kind, lines_by_names, moved_answer, new_names, sides_by_names
-from deedworlds.judge import claim_judged, found_answer, right_state
+from deedworlds.judge import answer_by_paper, claim_judged, right_state
 from deedworlds.leadings import equation_read, led_by, need_leading
 from deedworlds.readings import model_read, reading_by_names
 from deedworlds.terms import equation_wrong, need_equation, need_signature
@@ -71,7 +72,10 @@ def answer_for(house, book, number):
     """What is found of a claim by the bounds of the house and what was taught."""
     kind, claim = book.its_kind(), book.claimed[number]
     house.asked.append((kind, claim))
-    return found_answer(kind, claim, house.size, paper=book.taught, parts=house.parts)
+    if book.taught is None:
+        return answered(kind, claim, house.size, parts=house.parts)
+    # what was taught is right for the kind as it is: it needn't be judged again, as found_answer does
+    return answer_by_paper(book.taught, claim)
 
 
 def asked_for(house, title, number):

@@ -41,6 +41,11 @@ def claim_state(kind, equation, answer):
     return right_state(answer)
 
 
+def answer_by_paper(paper, equation):
+    """The answer to a claim by a complete paper that is known to be right, the paper told anew."""
+    return ("rules", own_copy(paper), decided_by(paper, equation))
+
+
 def found_answer(kind, equation, size, *, paper=None, parts=9):
     """An answer to a claim: by a complete paper, where one is handed in, else what answered tells."""
     need_kind(kind)
@@ -48,4 +53,4 @@ def found_answer(kind, equation, size, *, paper=None, parts=9):
     if paper is None:
         return answered(kind, equation, size, parts=parts)
     need_paper(kind, paper)
-    return ("rules", own_copy(paper), decided_by(paper, equation))
+    return answer_by_paper(paper, equation)

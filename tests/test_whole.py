@@ -7,14 +7,17 @@ import itertools
 import unittest
 
 from deedworlds.answers import answered
-from deedworlds.complete import decided, road_by
+from deedworlds.complete import complete_wrong, decided, decided_wrong, road_by
 from deedworlds.completion import completed
+from deedworlds.conjectures import conjectures, conjectures_judged
 from deedworlds.counting import all_models
 from deedworlds.errors import DeedError
+from deedworlds.joined import renaming_wrong
 from deedworlds.judge import claim_judged, claim_state, found_answer
+from deedworlds.leadings import leading_wrong
 from deedworlds.models import first_broken
 from deedworlds.plain import search
-from tests.helpers import Checks, deed, equation, fixed_chance, kind, lists_in, some_term, spoil, term, var
+from tests.helpers import Checks, deed, equation, fixed_chance, kind, lists_in, nested, some_term, spoil, term, var
 from tests.ruling import one_step
 from tests.test_interface import FILES
 
@@ -84,6 +87,59 @@ class NamesTest(Checks, unittest.TestCase):
         kept = copy.deepcopy(told)
         spoil(told)
         self.assertEqual(function(*things), kept, function.__name__)
+
+
+def places_in(thing, path=()):
+    yield path
+    if isinstance(thing, (tuple, list)):
+        for k, inner in enumerate(thing):
+            yield from places_in(inner, path + (k,))
+
+
+def exchanged_at(thing, path, other):
+    if not path:
+        return other(thing)
+    rows = list(thing)
+    rows[path[0]] = exchanged_at(rows[path[0]], path[1:], other)
+    return tuple(rows) if isinstance(thing, tuple) else rows
+
+
+class AnythingTest(Checks, unittest.TestCase):
+    """Of anything a judge tells None or what is wrong; nothing else breaks."""
+
+    ODD = (None, True, 0, -1, 7, "", "u", "var", "deed", "f", (), [], (1,), [1], ("var", "u"), ("var", []), ("deed", [], ()),
+           nested(280), "road", "rules", ([], []))
+
+    def papers(self):
+        loops = kind("f/1 g/1", "f(f(x)) = g(f(x))", "g(g(x)) = x")
+        paper = completed(loops, ((1, 1), (0, 1)))[1]
+        claim = equation("f(f(f(x))) = f(x)", loops[0])
+        answer = found_answer(loops, claim, 2, paper=paper)
+        yield claim_judged, (loops, claim), answer
+        yield complete_wrong, (loops,), paper
+        yield decided_wrong, (loops, paper, claim), answer[2]
+        yield claim_judged, (loops, claim), ("road", road_by(loops, paper, claim))
+        hidden = kind("f/1", "f(f(f(x))) = x")
+        asked = equation("f(x) = x", hidden[0])
+        yield claim_judged, (hidden, asked), answered(hidden, asked, 2, parts=4)
+        yield claim_judged, (hidden, asked), answered(hidden, asked, 3, parts=4)
+        yield leading_wrong, (KIND, KIND), ((term("m(u, v)", MF), term("f(u)", MF)), [ROAD, [
+            (term("m(x, x)", MF), None), (term("f(x)", MF), (1, False, (), (("x", var("x")),)))]])
+        yield renaming_wrong, (MF,), ("n", "g")
+        yield lambda thing: conjectures_judged(KIND, 2, thing, parts=3), (), conjectures(KIND, 2, parts=3)
+
+    def test_by_chance(self):
+        chance = fixed_chance(102)
+        for function, things, right in self.papers():
+            self.assertIsNone(function(*things, right))
+            places = list(places_in(right))
+            for k in range(300):
+                odd = chance.choice((lambda thing: chance.choice(self.ODD),
+                                     lambda thing: list(thing) if isinstance(thing, tuple) else (thing,),
+                                     lambda thing: thing[:-1] if isinstance(thing, (tuple, list, str)) else [thing],
+                                     lambda thing: thing + thing if isinstance(thing, (tuple, list)) else None))
+                told = function(*things, exchanged_at(right, chance.choice(places), odd))
+                self.assertTrue(told is None or (isinstance(told, tuple) and isinstance(told[0], str)))
 
 
 class OneJudgeTest(Checks, unittest.TestCase):
