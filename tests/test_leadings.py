@@ -188,6 +188,14 @@ class LedTest(Checks, unittest.TestCase):
             else:
                 told = led_road(one, OTHER, reading, (begin, inner), road)
                 self.assertEqual(max(count_parts(line[0]) for line in told), 60)
+        # a road that stays at a variable, for which just sixty parts are put
+        stays = kind("h/1 e/0", "u = u")
+        least = kind("g/1 c/0", "g(x) = x")
+        leading_there = ((var("u"), tower("h", 60, deed("e"))),
+                         [[(var("x"), None), (var("x"), (0, False, (), (("u", var("x")),)))]])
+        road = [(deed("g", deed("c")), None), (deed("c"), (0, False, (), (("x", deed("c")),)))]
+        told = led_road(least, stays, leading_there, (deed("g", deed("c")), deed("c")), road)
+        self.assertEqual([count_parts(line[0]) for line in told], [60, 60])
         # a part of 28 parts beside one of 28 in a term of 57, and both of 29 in one of 59
         for parts in (28, 29):
             half = (leading[0][:1] + (tower("h", parts, deed("e")),) + leading[0][2:], leading[1])
